@@ -25,23 +25,33 @@ def part_of(mix, amount):
     return [each * amount // mix[0] for each in mix]
 
 
-def in_window(grams, kilograms, least, most):
-    # Multiplied, not divided, so that nothing is rounded.
-    return least * kilograms <= grams and grams <= most * kilograms
+def spares(mix, recipe):
+    """By how many grams it keeps each of the recipe's six bounds; below 0 where it doesn't.
 
-
-def what_is_wrong(mix, recipe):
+    What two have to spare adds up as the two do, so that a kilogram more tells by how much each changes.
+    """
     kilograms = mix[0]
     fat = mix[1]
     sugar = mix[3]
     solids = fat + mix[2] + sugar
-    if not in_window(fat, kilograms, recipe[0], recipe[1]):
-        return 1
-    if not in_window(solids, kilograms, recipe[2], recipe[3]):
-        return 2
-    if not in_window(sugar, kilograms, recipe[4], recipe[5]):
-        return 3
+    spare = []
+    for window, grams in enumerate((fat, solids, sugar)):
+        # Multiplied, not divided, so that nothing is rounded.
+        spare.append(grams - recipe[2 * window] * kilograms)
+        spare.append(recipe[2 * window + 1] * kilograms - grams)
+    return spare
+
+
+def what_is_wrong(mix, recipe):
+    for bound, grams in enumerate(spares(mix, recipe)):
+        if grams < 0:
+            return bound // 2 + 1
     return 0
+
+
+def costs_more(first, second):
+    """Whether a kilogram of the first costs more than one of the second; neither is of nothing."""
+    return first[4] * second[0] > second[4] * first[0]
 
 
 def is_recipe(six):

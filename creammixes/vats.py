@@ -12,9 +12,19 @@ POUR = 6
 DRAW = 7
 FITS = 8
 WHICH = 9
+LEAST = 10
+TWO = 11
+BEST = 12
+WOULD = 13
+AFTER = 14
+LOOK = 15
+OF = 16
+DEAR = 17
+SUMS = 18
+STATE = 19
 
 # How many numbers stand behind each call's own; recipe is not counted here, its row tells its length itself.
-HOW_MANY = (1, 4, 2, 0, 0, 3, 3, 2, 2, 1)
+HOW_MANY = (1, 4, 2, 0, 0, 3, 3, 2, 2, 1, 3, 4, 2, 3, 3, 1, 1, 0, 0, 0)
 
 
 class NoSuchCall(ValueError):
@@ -38,7 +48,7 @@ def answers(calls):
 
 def given_count(calls, at):
     call = calls[at]
-    if call < BEGIN or call > WHICH:
+    if call < BEGIN or call > STATE:
         raise NoSuchCall(f"{call}")
     return calls[at + 1] if call == RECIPE else HOW_MANY[call]
 
@@ -48,6 +58,14 @@ def answer_of(works, call, given):
         return works.begin(given[0])
     if not works.is_begun():
         return [NOT_BEGUN]
+    if call <= DRAW:
+        return answer_of_changing(works, call, given)
+    if call <= BEST:
+        return answer_of_judging(works, call, given)
+    return answer_of_telling(works, call, given)
+
+
+def answer_of_changing(works, call, given):
     if call == THING:
         return works.thing(given[0], given[1], given[2], given[3])
     if call == BUY:
@@ -60,8 +78,32 @@ def answer_of(works, call, given):
         return works.add(given[0], given[1], given[2])
     if call == POUR:
         return works.pour(given[0], given[1], given[2])
-    if call == DRAW:
-        return works.draw(given[0], given[1])
+    return works.draw(given[0], given[1])
+
+
+def answer_of_judging(works, call, given):
     if call == FITS:
         return works.fits(given[0], given[1])
-    return works.which(given[0])
+    if call == WHICH:
+        return works.which(given[0])
+    if call == LEAST:
+        return works.least(given[0], given[1], given[2])
+    if call == TWO:
+        return works.two(given[0], given[1], given[2], given[3])
+    return works.best(given[0], given[1])
+
+
+def answer_of_telling(works, call, given):
+    if call == WOULD:
+        return works.would(given[0], given[1], given[2])
+    if call == AFTER:
+        return works.after(given[0], given[1], given[2])
+    if call == LOOK:
+        return works.look(given[0])
+    if call == OF:
+        return works.of(given[0])
+    if call == DEAR:
+        return works.dear()
+    if call == SUMS:
+        return works.sums()
+    return works.state()

@@ -12,6 +12,16 @@ OTHERS = [
     ("draw", 0, 1),
     ("fits", 0, 0),
     ("which", 0),
+    ("least", 0, 0, 0),
+    ("two", 0, 0, 0, 1),
+    ("best", 0, 0),
+    ("would", 0, 0, 1),
+    ("after", 0, 1, 1),
+    ("look", 0),
+    ("of", 0),
+    ("dear",),
+    ("sums",),
+    ("state",),
 ]
 
 # Each would be refused otherwise too, if it were begun.
@@ -25,6 +35,14 @@ WRONG_OTHERS = [
     ("draw", HIGHEST, 0),
     ("fits", HIGHEST, HIGHEST),
     ("which", HIGHEST),
+    ("least", HIGHEST, HIGHEST, HIGHEST),
+    ("two", HIGHEST, HIGHEST, HIGHEST, HIGHEST),
+    ("two", 0, 0, 0, 0),
+    ("best", HIGHEST, HIGHEST),
+    ("would", HIGHEST, HIGHEST, HIGHEST),
+    ("after", HIGHEST, HIGHEST, 0),
+    ("look", HIGHEST),
+    ("of", HIGHEST),
 ]
 
 FILLED = [
@@ -58,9 +76,10 @@ class Begin(unittest.TestCase):
     def test_there_is_nothing_after_it(self):
         told = answered(
             ("begin", 5), ("buy", 0, 1), ("add", 0, 0, 1), ("draw", 0, 1), ("which", 0), ("fits", 0, 0),
-            ("thing", 0, 0, 0, 0), ("mix",), ("recipe", [0] * 6),
+            ("least", 0, 0, 0), ("two", 0, 0, 0, 1), ("best", 0, 0), ("would", 0, 0, 1), ("after", 0, 1, 1), ("look", 0),
+            ("of", 0), ("dear",), ("sums",), ("state",), ("thing", 0, 0, 0, 0), ("mix",), ("recipe", [0] * 6),
         )
-        self.assertEqual(told, [[0], [-2], [-2], [-2], [-2], [-2], [0], [0], [0]])
+        self.assertEqual(told, [[0], *[[-2]] * 12, [-6], [0, 0, 0, 0, 0], [0, 0, 0, 5], [0], [0], [0]])
 
 
 class BeforeBegin(unittest.TestCase):
@@ -93,6 +112,17 @@ class BeginAgain(unittest.TestCase):
             [0], [-2], [-2], [-2], [-2], [0], [0], [0], [-6], [-12], [-12], [1], [-2], [-2],
         ])
 
+    def test_nothing_is_left_to_be_told(self):
+        told = answered(
+            *FILLED, ("draw", 0, 1), ("begin", 10), ("sums",), ("state",), ("dear",), ("look", 0), ("of", 0),
+            ("least", 0, 0, 0), ("two", 0, 0, 0, 1), ("best", 0, 0), ("would", 0, 0, 1), ("after", 0, 1, 1),
+            ("mix",), ("thing", 1, 2, 3, 4), ("look", 0), ("of", 0), ("sums",), ("dear",),
+        )[len(FILLED) + 1:]
+        self.assertEqual(told, [
+            [0], [0, 0, 0, 0, 0], [0, 0, 0, 10], [-6], *[[-2]] * 7,
+            [0], [0], [0, 0, 0, 0, 0], [0, 1, 2, 3, 4], [0, 0, 0, 0, 0], [-6],
+        ])
+
     def test_the_room_is_the_new_one(self):
         again = [("thing", 0, 0, 0, 0), ("buy", 0, 300), ("mix",)]
         self.assertEqual(last(("begin", 2), ("begin", 9), *again, ("add", 0, 0, 9)), [9, 0, 0, 0, 0])
@@ -100,10 +130,12 @@ class BeginAgain(unittest.TestCase):
 
     def test_out_of_range_leaves_all_as_it_was(self):
         asked = [
+            ("sums",), ("state",), ("dear",), ("look", 0), ("of", 0),
             ("fits", 0, 0), ("which", 0), ("which", 1), ("buy", 0, 1), ("add", 0, 0, 7), ("add", 0, 0, 6),
             ("thing", 0, 0, 0, 0), ("mix",), ("recipe", [0] * 6), ("draw", 0, 10),
         ]
         wanted = [
+            [0, 20, 16, 4, 0], [2, 1, 1, 10], [0, 28, 4], [4, 400, 800, 1200, 28], [16, 100, 200, 300, 7],
             [0], [1, 0], [-6], [17], [-28], [10, 1000, 2000, 3000, 70], [1], [2], [1], [10, 1000, 2000, 3000, 70],
         ]
         for room in (0, 301, HIGHEST):

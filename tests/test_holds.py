@@ -2,8 +2,9 @@
 
 import random
 import unittest
+from fractions import Fraction
 
-from lines import HIGHEST, answered, last, probes
+from lines import HIGHEST, ONLY_TELL, answered, last, more, probes, suits, tried_two
 
 LINES = 150
 
@@ -19,10 +20,16 @@ def some_amount(source, most):
     return source.choice((0, 1, 1, 2, 3, source.randint(1, most), source.randint(1, most), HIGHEST))
 
 
-def some_six(source):
+def some_windows(source):
     six = []
     for window in range(3):
-        six.extend(sorted((source.randint(0, 400), source.randint(0, 1000))))
+        narrow = sorted((source.randint(0, 400), source.randint(0, 1000)))
+        six.extend(source.choice((narrow, [0, 1000])))
+    return six
+
+
+def some_six(source):
+    six = some_windows(source)
     return source.choice((six, six, six, six[:5], six + [1], six[::-1], [], [0, 1001] * 3))
 
 
@@ -45,6 +52,25 @@ def some_call(source, room):
         lambda: ("draw", number(source, 4), some_amount(source, room)),
         lambda: ("fits", number(source, 4), number(source, 3)),
         lambda: ("which", number(source, 4)),
+        lambda: some_question(source),
+        lambda: some_question(source),
+        lambda: some_question(source),
+    ))()
+
+
+def some_question(source):
+    number = some_number
+    return source.choice((
+        lambda: ("least", number(source, 4), number(source, 3), number(source, 5)),
+        lambda: ("two", number(source, 4), number(source, 3), number(source, 5), number(source, 5)),
+        lambda: ("best", number(source, 4), number(source, 3)),
+        lambda: ("would", number(source, 4), number(source, 5), source.choice((0, 1, 299, 300, 301, HIGHEST))),
+        lambda: ("after", number(source, 4), number(source, 4), some_amount(source, 9)),
+        lambda: ("look", number(source, 4)),
+        lambda: ("of", number(source, 5)),
+        lambda: ("dear",),
+        lambda: ("sums",),
+        lambda: ("state",),
     ))()
 
 
@@ -53,7 +79,8 @@ def some_line(seed):
     room = source.choice((1, 2, 7, 30, 299, 300))
     calls = [("begin", room)]
     calls.extend(some_thing(source) for each in range(3))
-    calls.extend([("mix",), ("mix",), ("buy", 0, 400), ("buy", 1, 400)])
+    calls.extend([("mix",), ("mix",), ("buy", 0, 400), ("buy", 1, 400), ("recipe", some_windows(source))])
+    calls.extend(("add", mix, mix, source.randint(1, room)) for mix in range(2))
     calls.extend(some_call(source, room) for each in range(120))
     if seed % 5 == 0:
         calls.insert(60, ("begin", source.choice((0, 301, 5, 300))))
@@ -75,7 +102,10 @@ class RefusedChangesNothing(unittest.TestCase):
         for pair in (("begin", -22), ("thing", -22), ("thing", -28), ("buy", -2), ("buy", -22), ("mix", -28),
                      ("recipe", -22), ("recipe", -28), ("add", -2), ("add", -22), ("add", -12), ("add", -28),
                      ("pour", -2), ("pour", -22), ("pour", -12), ("pour", -28), ("draw", -2), ("draw", -22),
-                     ("draw", -12), ("fits", -2), ("fits", -6), ("which", -2), ("which", -6)):
+                     ("draw", -12), ("fits", -2), ("fits", -6), ("which", -2), ("which", -6), ("least", -2),
+                     ("least", -6), ("least", -33), ("two", -2), ("two", -22), ("two", -6), ("two", -33), ("best", -2),
+                     ("best", -6), ("best", -33), ("would", -2), ("would", -22), ("after", -2), ("after", -22),
+                     ("after", -12), ("look", -2), ("of", -2), ("dear", -6)):
             self.assertIn(pair, refusals)
 
     def test_a_refusal_stands_alone(self):
@@ -83,6 +113,33 @@ class RefusedChangesNothing(unittest.TestCase):
             for call, answer in zip(some_line(seed), answered(*some_line(seed))):
                 if answer[0] < 0:
                     self.assertEqual(len(answer), 1, call)
+
+
+class TellingChangesNothing(unittest.TestCase):
+    def test_a_line_without_what_only_tells_answers_alike(self):
+        asked = {}
+        for seed in range(LINES):
+            line = some_line(seed)
+            calls = line + probes(8, 6, 6)
+            told = answered(*calls)
+            kept = [number for number, call in enumerate(calls) if number >= len(line) or call[0] not in ONLY_TELL]
+            again = answered(*[calls[number] for number in kept])
+            self.assertEqual(again, [told[number] for number in kept], seed)
+            for call, answer in zip(line, told):
+                if answer[0] >= 0:
+                    asked[call[0]] = asked.get(call[0], 0) + 1
+        for name in ONLY_TELL:
+            self.assertGreater(asked.get(name, 0), 10, name)
+
+    def test_the_same_question_again_has_the_same_answer(self):
+        for seed in range(LINES):
+            calls = []
+            for call in some_line(seed):
+                calls += [call, call] if call[0] in ONLY_TELL else [call]
+            told = answered(*calls)
+            for number, call in enumerate(calls[:-1]):
+                if call[0] in ONLY_TELL and calls[number + 1] == call:
+                    self.assertEqual(told[number], told[number + 1], (seed, call))
 
 
 class NothingIsLost(unittest.TestCase):
@@ -117,6 +174,32 @@ class NothingIsLost(unittest.TestCase):
             drawn = sum(call[2] for call, answer in zip(calls, told) if call[0] == "draw" and answer[0] >= 0)
             stock = sum(answer[0] for answer in told[-8:] if answer[0] >= 0)
             self.assertEqual(stock + drawn, bought, seed)
+
+    def test_every_kilogram_bought_is_in_stock_in_a_mix_or_drawn_all_along(self):
+        for seed in range(LINES):
+            calls = []
+            for call in some_line(seed):
+                calls += [call, ("sums",)]
+            bought = drawn = 0
+            told = answered(*calls)
+            for call, answer, sums in zip(calls[::2], told[::2], told[1::2]):
+                if answer[0] >= 0 and call[0] == "begin":
+                    bought = drawn = 0
+                if answer[0] >= 0 and call[0] == "buy":
+                    bought += call[2]
+                if answer[0] >= 0 and call[0] == "draw":
+                    drawn += call[2]
+                self.assertEqual([sums[0], sums[1], sums[4]], [0, bought, drawn], (seed, call))
+                self.assertEqual(sums[1], sums[2] + sums[3] + sums[4], (seed, call))
+
+    def test_sums_are_those_of_what_is_looked_at(self):
+        for seed in range(LINES):
+            told = answered(*some_line(seed), *[("of", thing) for thing in range(8)], *[("look", mix) for mix in range(6)],
+                            ("sums",), ("state",))[-16:]
+            things = [answer for answer in told[:8] if answer != [-2]]
+            mixes = [answer for answer in told[8:14] if answer != [-2]]
+            self.assertEqual(told[14][2:4], [sum(answer[0] for answer in things), sum(answer[0] for answer in mixes)], seed)
+            self.assertEqual(told[15][:2], [len(mixes), len(things)], seed)
 
     def test_pouring_keeps_the_sum(self):
         for amount in range(1, 14):
@@ -173,6 +256,133 @@ class FittingHolds(unittest.TestCase):
             told = last(("begin", 9), ("thing", 100, 100, 100, price), ("buy", 0, 9), ("mix",), ("add", 0, 0, 9),
                         ("recipe", [100, 100, 300, 300, 100, 100]), ("fits", 0, 0))
             self.assertEqual(told, [0])
+
+
+class Ended:
+    """A line made up from a seed, and what is there at its end."""
+
+    def __init__(self, seed):
+        self.calls = some_line(seed)
+        looks = [("look", mix) for mix in range(6)] + [("of", thing) for thing in range(8)] + [("state",)]
+        told = answered(*self.calls, *looks)
+        self.room = told[-1][3]
+        self.things = [answer for answer in told[-9:-1] if answer != [-2]]
+        self.mixes = [answer for answer in told[-15:-9] if answer != [-2]]
+        self.recipes = []
+        for call, answer in zip(self.calls, told):
+            if call[0] == "begin" and answer == [0]:
+                self.recipes = []
+            if call[0] == "recipe" and answer[0] >= 0:
+                self.recipes.append(call[1])
+
+    def then(self, *calls):
+        return answered(*self.calls, *calls)[len(self.calls):]
+
+    def places(self):
+        """Pairs of a mix that is not of nothing and a recipe."""
+        there = [mix for mix, has in enumerate(self.mixes) if has[0] > 0]
+        return [(mix, recipe) for mix in there[:4] for recipe in range(min(len(self.recipes), 4))]
+
+    def most(self, mix, thing):
+        return min(self.things[thing][0], self.room - self.mixes[mix][0])
+
+    def does(self, mix, recipe, thing, amount):
+        return suits(more(self.mixes[mix], self.things[thing][1:], amount), self.recipes[recipe])
+
+
+class AsWanted(unittest.TestCase):
+    def test_with_so_much_it_is_as_wanted_with_less_it_is_not(self):
+        found = {}
+        for seed in range(LINES):
+            end = Ended(seed)
+            asked = [(mix, recipe, thing) for mix, recipe in end.places() for thing in range(len(end.things))]
+            for given, answer in zip(asked, end.then(*[("least", *given) for given in asked])):
+                mix, recipe, thing = given
+                none = answer == [-33]
+                below = end.most(mix, thing) + 1 if none else answer[0]
+                self.assertFalse(any(end.does(*given, amount) for amount in range(below)), (seed, given))
+                if not none:
+                    self.assertTrue(end.does(*given, answer[0]), (seed, given))
+                    self.assertEqual(answer[1], answer[0] * end.things[thing][4], (seed, given))
+                kind = min(answer[0], 1)
+                found[kind] = found.get(kind, 0) + 1
+        for kind in (-33, 0, 1):
+            self.assertGreater(found.get(kind, 0), 30, found)
+
+    def test_added_in_truth(self):
+        added = 0
+        for seed in range(LINES):
+            end = Ended(seed)
+            asked = [(mix, recipe, thing) for mix, recipe in end.places() for thing in range(len(end.things))]
+            for given, answer in zip(asked, end.then(*[("least", *given) for given in asked])):
+                if answer[0] < 1:
+                    continue
+                mix, recipe, thing = given
+                added += 1
+                told = end.then(("add", mix, thing, answer[0]), ("fits", mix, recipe), ("least", *given))
+                self.assertEqual(told[1:], [[0], [0, 0]], (seed, given))
+                self.assertGreater(end.then(("add", mix, thing, answer[0] - 1), ("fits", mix, recipe))[1][0], 0)
+        self.assertGreater(added, 20)
+
+    def test_of_two_together_less_will_not_do_however_it_is_shared(self):
+        found = {}
+        for seed in range(LINES):
+            end = Ended(seed)
+            asked = [(mix, recipe, first, other) for mix, recipe in end.places()[:4] for first in range(3)
+                     for other in range(3) if first != other and max(first, other) < len(end.things)]
+            for given, answer in zip(asked, end.then(*[("two", *given) for given in asked])):
+                mix, recipe, first, other = given
+                left = end.room - end.mixes[mix][0]
+                if left > 40:
+                    continue
+                stocks = [end.things[thing][0] for thing in (first, other)]
+                wanted = tried_two(end.mixes[mix], end.recipes[recipe], end.things[first][1:], end.things[other][1:],
+                                   stocks, left)
+                self.assertEqual(answer, [-33] if wanted is None else wanted, (seed, given))
+                kind = min(answer[0], 1)
+                found[kind] = found.get(kind, 0) + 1
+        for kind in (-33, 0, 1):
+            self.assertGreater(found.get(kind, 0), 10, found)
+
+    def test_two_together_want_no_more_than_one_alone(self):
+        for seed in range(LINES):
+            end = Ended(seed)
+            if len(end.things) < 2:
+                continue
+            for mix, recipe in end.places()[:6]:
+                told = end.then(("least", mix, recipe, 0), ("least", mix, recipe, 1), ("two", mix, recipe, 0, 1))
+                alone = [answer[0] for answer in told[:2] if answer != [-33]]
+                if alone:
+                    self.assertGreaterEqual(told[2][0], 0, (seed, mix, recipe))
+                    self.assertLessEqual(told[2][0], min(alone), (seed, mix, recipe))
+
+    def test_by_no_ingredient_alone_less_must_be_added_than_by_the_best(self):
+        found = {}
+        for seed in range(LINES):
+            end = Ended(seed)
+            for mix, recipe in end.places():
+                alone = end.then(*[("least", mix, recipe, thing) for thing in range(len(end.things))])
+                ways = [(*answer, thing) for thing, answer in enumerate(alone) if answer != [-33]]
+                told = end.then(("best", mix, recipe))[0]
+                self.assertEqual(told, [min(ways)[2], min(ways)[0]] if ways else [-33], (seed, mix, recipe))
+                kind = min(told[-1], 1)
+                found[kind] = found.get(kind, 0) + 1
+        for kind in (-33, 0, 1):
+            self.assertGreater(found.get(kind, 0), 10, found)
+
+    def test_no_mix_s_kilogram_costs_more_than_the_dearest_s(self):
+        several = 0
+        for seed in range(LINES):
+            end = Ended(seed)
+            costs = [(Fraction(has[4], has[0]), -mix) for mix, has in enumerate(end.mixes) if has[0] > 0]
+            told = end.then(("dear",))[0]
+            if not costs:
+                self.assertEqual(told, [-6], seed)
+                continue
+            mix = -max(costs)[1]
+            self.assertEqual(told, [mix, end.mixes[mix][4], end.mixes[mix][0]], seed)
+            several += len(costs) > 1
+        self.assertGreater(several, 30)
 
 
 if __name__ == "__main__":

@@ -1,4 +1,7 @@
-"""The rules of the language that a look at the package's files can tell (L1, L2, L5 to L8, L10, L12, L14, L17, L25)."""
+"""Those rules of the language that a look at the package's files can tell.
+
+Looked at are L1, L2, L5 to L8, L10, L12, L14, L17 and L25; of L3, L15, L16, L18, L20 to L24 and L26 what is told below.
+"""
 
 import ast
 import builtins
@@ -41,6 +44,123 @@ def nodes():
     for path, text in sources():
         for node in ast.walk(ast.parse(text)):
             yield path.name, node
+
+
+def trees():
+    return [(path.stem, ast.parse(text)) for path, text in sources()]
+
+
+def top_names(tree):
+    """What a file defines at its top, without what it imports."""
+    names = [node.name for node in tree.body if isinstance(node, (ast.FunctionDef, ast.ClassDef))]
+    names += [target.id for node in tree.body if isinstance(node, ast.Assign) for target in node.targets]
+    return names
+
+
+def imports(tree):
+    return [node for node in tree.body if isinstance(node, ast.ImportFrom)]
+
+
+class Files(unittest.TestCase):
+    def test_the_top_holds_nothing_that_does_something(self):
+        for stem, tree in trees():
+            self.assertIsNotNone(ast.get_docstring(tree), stem)
+            for node in tree.body[1:]:
+                self.assertIsInstance(node, (ast.ImportFrom, ast.FunctionDef, ast.ClassDef, ast.Assign), stem)
+                if isinstance(node, ast.Assign):
+                    # Fails if it is not a plain value.
+                    ast.literal_eval(node.value)
+
+    def test_each_name_is_bound_once_at_the_top(self):
+        for stem, tree in trees():
+            names = top_names(tree) + [each.name for node in imports(tree) for each in node.names]
+            self.assertEqual(len(names), len(set(names)), stem)
+
+    def test_imports_stand_at_the_top_and_draw_from_the_file_that_defines(self):
+        files = dict(trees())
+        for stem, tree in trees():
+            inside = [node for node in ast.walk(tree) if isinstance(node, ast.ImportFrom)]
+            self.assertEqual(len(inside), len(imports(tree)), stem)
+            for node in imports(tree):
+                for each in node.names:
+                    self.assertIsNone(each.asname, stem)
+                    self.assertIn(each.name, top_names(files[node.module.split(".")[-1]]), stem)
+
+    def test_no_two_files_draw_from_one_another(self):
+        drawn = {stem: {node.module.split(".")[-1] for node in imports(tree)} for stem, tree in trees()}
+        while drawn:
+            free = [stem for stem in drawn if not drawn[stem]]
+            self.assertTrue(free, drawn)
+            drawn = {stem: others - set(free) for stem, others in drawn.items() if stem not in free}
+
+    def test_no_local_is_called_like_a_class_or_an_import(self):
+        for stem, tree in trees():
+            taken = {each.name for node in imports(tree) for each in node.names}
+            taken |= {node.name for node in tree.body if isinstance(node, ast.ClassDef)}
+            for node in ast.walk(tree):
+                if isinstance(node, ast.arg):
+                    self.assertNotIn(node.arg, taken, stem)
+                if isinstance(node, ast.Name) and isinstance(node.ctx, ast.Store):
+                    self.assertNotIn(node.id, taken, stem)
+
+
+class Forms(unittest.TestCase):
+    def setUp(self):
+        # They are kept, so that each stays the one it is.
+        self.kept = list(nodes())
+
+    def test_no_name_is_a_method_and_a_value(self):
+        methods = []
+        values = set()
+        for name, node in nodes():
+            if isinstance(node, ast.ClassDef):
+                own = [each.name for each in node.body if isinstance(each, ast.FunctionDef)]
+                self.assertEqual(len(own), len(set(own)), node.name)
+                methods += own
+            if isinstance(node, ast.Attribute) and isinstance(node.ctx, ast.Store):
+                values.add(node.attr)
+        self.assertEqual(values & set(methods), set())
+
+    def test_own_methods_and_values_are_not_called_like_python_s(self):
+        python_s = {each for kind in (str, int, list, dict, set, bytes) for each in dir(kind)}
+        for name, node in nodes():
+            if isinstance(node, ast.Attribute) and isinstance(node.ctx, ast.Store):
+                self.assertNotIn(node.attr, python_s, name)
+            if isinstance(node, ast.ClassDef):
+                for each in node.body:
+                    if isinstance(each, ast.FunctionDef):
+                        self.assertNotIn(each.name, python_s - {"__init__", "add"}, name)
+
+    def test_methods_are_called_where_they_stand(self):
+        methods = {each.name for name, node in nodes() if isinstance(node, ast.ClassDef)
+                   for each in node.body if isinstance(each, ast.FunctionDef)}
+        called = {id(node.func) for name, node in self.kept if isinstance(node, ast.Call)}
+        for name, node in self.kept:
+            if isinstance(node, ast.Attribute) and node.attr in methods:
+                self.assertIn(id(node), called, f"{name} {node.attr}")
+
+    def test_is_stands_beside_none_true_false(self):
+        for name, node in nodes():
+            if isinstance(node, ast.Compare) and isinstance(node.ops[0], (ast.Is, ast.IsNot)):
+                self.assertIn(ast.unparse(node.comparators[0]), ("None", "True", "False"), name)
+
+    def test_no_annotation_and_no_keyword(self):
+        for name, node in nodes():
+            self.assertIsNone(getattr(node, "annotation", None), name)
+            self.assertIsNone(getattr(node, "returns", None), name)
+            if isinstance(node, ast.Call):
+                self.assertEqual(node.keywords, [], name)
+
+    def test_walked_at_once(self):
+        walked = set()
+        for name, node in self.kept:
+            if isinstance(node, (ast.For, ast.comprehension)):
+                walked.add(id(node.iter))
+        for name, node in self.kept:
+            if isinstance(node, ast.Call) and isinstance(node.func, ast.Name):
+                if node.func.id in ("zip", "enumerate", "reversed", "range"):
+                    self.assertIn(id(node), walked, f"{name} {node.lineno}")
+                self.assertNotIn(node.func.id, ("set", "frozenset"), name)
 
 
 class Language(unittest.TestCase):

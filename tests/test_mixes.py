@@ -1,6 +1,6 @@
 import unittest
 
-from lines import HIGHEST, answered, last
+from lines import HIGHEST, answered
 
 # Three ingredients, the last of nothing; two mixes of nothing; room for 20.
 READY = [
